@@ -1,0 +1,1 @@
+"""Prices in force by days, and programs that change them afterwards."""
