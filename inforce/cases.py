@@ -1,7 +1,7 @@
 """What is in force on a day behind a program, as a line and as cases."""
 
 from inforce.errors import InvalidDay
-from inforce.lines import line_ahead
+from inforce.lines import line_ahead, stretch_days
 from inforce.lists import plus
 
 
@@ -79,7 +79,7 @@ def _stretches(asked, day, told):
         named.extend([(first, last) for first, last, _ in conditions])
         if words[0] == "of":
             named.append((0, words[1]))
-    return sorted({edge for first, last in named for edge in (first, last + 1)})
+    return stretch_days(named)
 
 
 def _left_free(days, conditions):

@@ -18,6 +18,11 @@ def line_ahead(told, deed):
     return _in_form(ahead), price
 
 
+def stretch_days(spans):
+    """Return the days on which spans (first, last) begin or are over, ascending."""
+    return sorted({edge for first, last in spans for edge in (first, last + 1)})
+
+
 def _span_ahead(span, deed):
     """Return (parts, ending) for what a span tells behind a deed.
 

@@ -3,23 +3,27 @@
 from inforce.errors import InvalidDeed, UnknownDeed
 from inforce.lists import PriceList, in_force, plus
 
-# How many things each kind of deed has, its first text included.
-_SIZES = {"put": 3, "take": 2, "end": 2, "cover": 4, "raise": 4, "repeat": 4}
-
-# How many days stand behind the first text.
-_DAYS = {"put": 1, "take": 1, "end": 1, "cover": 2, "raise": 2, "repeat": 3}
+# What stands behind the first text of each kind of deed; days stand ahead of others.
+THINGS = {
+    "put": ("day", "price"),
+    "take": ("day",),
+    "end": ("day",),
+    "cover": ("day", "day", "price"),
+    "raise": ("day", "day", "number"),
+    "repeat": ("day", "day", "day"),
+}
 
 
 def deed_days(deed):
     """Return the days that a deed names, in its own order."""
-    return deed[1:1 + _DAYS[deed[0]]]
+    return deed[1:1 + THINGS[deed[0]].count("day")]
 
 
 def is_deed(deed):
     """Return True if a tuple is one of the six kinds of deeds."""
-    if len(deed) == 0 or deed[0] not in _SIZES:
+    if len(deed) == 0 or deed[0] not in THINGS:
         return False
-    if len(deed) != _SIZES[deed[0]]:
+    if len(deed) != 1 + len(THINGS[deed[0]]):
         return False
     days = deed_days(deed)
     if any([day < 0 for day in days]):

@@ -179,6 +179,49 @@ def judge(deeds, day, told):
     return True
 
 
+def shown(entries, top):
+    """What is in force on each day from 0 to top."""
+    told, price = [], None
+    for day in range(top + 1):
+        price = entries.get(day, price)
+        told.append(price)
+    return told
+
+
+def all_lists(days):
+    """All lists with entries on some of the days, with prices far apart."""
+    return list(lists_over([(day, day) for day in days]))
+
+
+def few_lists(days):
+    """The lists with at most two entries on some of the days, with prices far apart."""
+    return [
+        {day: far_price(day) for day in chosen}
+        for size in range(3) for chosen in combinations(days, size)
+    ]
+
+
+def days_that_matter(deeds):
+    """A day for each place between the named days, two for each that has room for them."""
+    named = named_days(deeds)
+    near = {day + step for day in named for step in (-1, 0, 1)}
+    top = max(named, default=0) + 2
+    return sorted(day for day in near | {0, top - 1, top} if day >= 0)
+
+
+def effect(deeds, lists, top):
+    """What is in force behind the deeds on each day from 0 to top, for each list."""
+    return [shown(done(entries, deeds), top) for entries in lists]
+
+
+def alike(deeds, others, lists):
+    """True if the deeds and the others leave the same in force for each of the lists."""
+    top = max(named_days(deeds + others), default=0) + 3
+    return all(
+        shown(done(entries, deeds), top) == shown(done(entries, others), top) for entries in lists
+    )
+
+
 def some_price(source, low=-5, high=9):
     return None if source.random() < 0.2 else source.randint(low, high)
 
@@ -205,3 +248,21 @@ def some_entries(source, top, most):
     """Entries in any order, no day twice."""
     days = source.sample(range(top + 1), source.randint(0, min(most, top + 1)))
     return [(day, some_price(source)) for day in days]
+
+
+def greater(deed):
+    """The deed with its last thing greater by one; 0 for None."""
+    return (*deed[:-1], 0 if deed[-1] is None else deed[-1] + 1)
+
+
+def near_ones(source, deeds, top):
+    """Deeds that are the same but for one: left out, doubled, replaced, put in, exchanged, greater."""
+    at = source.randrange(len(deeds))
+    ahead, deed, behind = deeds[:at], deeds[at], deeds[at + 1:]
+    other = some_deed(source, top)
+    near = [ahead + behind, ahead + [other] + behind, ahead + [greater(deed)] + behind]
+    if len(deeds) < 6:
+        near.extend([ahead + [deed, deed] + behind, ahead + [other, deed] + behind])
+    if behind:
+        near.append(ahead + [behind[0], deed] + behind[1:])
+    return near

@@ -4,9 +4,14 @@ import random
 import time
 import unittest
 
+from inforce.boards import Board, CalmBoard
 from inforce.cases import answer, cases, fits, judge, line, line_answer
+from inforce.compare import alike, least_sets, may_change_places, needless, same_days, sure, unlike, untouched
+from inforce.errors import LateDeed
 from inforce.lists import PriceList
 from inforce.programs import Program
+from inforce.readings import read_prices, read_program
+from inforce.texts import show_prices, show_program
 from tests import plain
 
 
@@ -113,6 +118,73 @@ class AtOnce(unittest.TestCase):
         self.assertIs(self.at_once(judge, Program([]), 40, told), True)
         told[3] = (told[3][0], ("of", 2, 0))
         self.assertIs(self.at_once(judge, Program([]), 40, told), False)
+
+    def check_compared(self, deeds, others):
+        program, other = Program(deeds), Program(others)
+        same = self.at_once(alike, program, other)
+        self.assertIs(self.at_once(unlike, program, other) is None, same)
+        for index in range(len(deeds) - 1):
+            self.at_once(may_change_places, program, index)
+        idle = self.at_once(needless, program)
+        least = self.at_once(least_sets, program)
+        for index in idle:
+            self.assertTrue(any(index not in chosen for chosen in least))
+        for day in (0, 20, 40, 41):
+            self.at_once(untouched, program, day)
+            self.at_once(sure, program, day)
+            self.at_once(same_days, program, day, 20)
+
+    def test_programs_of_6_deeds_compared(self):
+        source = random.Random(55)
+        for top in (3, 40):
+            for kinds in (("put", "take", "end", "cover", "raise", "repeat"), ("take", "repeat", "raise"), ("raise",), ("take",)):
+                for _ in range(25):
+                    deeds = [plain.some_deed(source, top, kinds) for _ in range(6)]
+                    self.check_compared(deeds, source.choice(plain.near_ones(source, deeds, top)))
+                    self.check_compared(deeds, source.sample(deeds, 6))
+
+    def test_lines_of_most_spans_compared(self):
+        # All deeds change places here, and none is needless: each question goes to its end.
+        deeds = [("take", day) for day in (5, 10, 15, 20, 25, 40)]
+        self.check_compared(deeds, deeds[::-1])
+        self.check_compared(deeds, deeds[:5] + [("take", 39)])
+        # And here all sets of one deed do.
+        self.check_compared([("take", 40)] * 6, [("take", 40)])
+
+    def check_board(self, kind, source):
+        begin = time.process_time()
+        board = kind(PriceList([(day, plain.some_price(source)) for day in range(41)]))
+        late = 0
+        for call in range(50):
+            deed = plain.some_deed(source, 40)
+            if len(board) == 40:
+                self.at_once(board.drop, source.randrange(40))
+            self.at_once(board, deed)
+            if len(board) == 40:
+                self.at_once(board.undo)
+            try:
+                self.at_once(board.late, deed, max(0, len(board) - 5))
+            except LateDeed:
+                late += 1
+            self.at_once(lambda: (board.prices, board.program, len(board)))
+        # All calls of a board together, too.
+        self.assertLess(time.process_time() - begin, 2)
+        return late
+
+    def test_boards_of_40_deeds_and_200_calls(self):
+        source = random.Random(56)
+        for _ in range(5):
+            self.assertEqual(self.check_board(Board, source), 0)
+            self.assertGreater(self.check_board(CalmBoard, source), 0)
+
+    def test_texts_of_3000_characters(self):
+        entries = [(day, None) for day in range(518)]
+        text = self.at_once(show_prices, PriceList(entries))
+        self.assertEqual(self.at_once(read_prices, text).entries, entries)
+        deeds = [("end", 0)] * 428
+        text = self.at_once(show_program, Program(deeds))
+        self.assertEqual(len(text), 2994)
+        self.assertEqual(self.at_once(read_program, text).deeds, deeds)
 
 
 if __name__ == "__main__":

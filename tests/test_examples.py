@@ -26,6 +26,34 @@
 >>> case = ([(11, 20, True), (5, 5, False)], ("of", 20, 3))
 >>> [fits(case, PriceList([(15, 8)])), answer(case, PriceList([(15, 8)])), fits(case, PriceList([(5, 1), (15, 8)])), answer(case, PriceList([])), judge(Program([("take", 10)]), 20, [([(11, 20, True)], ("of", 20, 0)), ([(11, 20, False)], ("of", 9, 0))])]
 [True, 11, False, None, True]
+
+>>> from inforce.compare import alike, least_sets, may_change_places, needless, same_days, sure, unlike, untouched
+>>> from inforce.programs import Program
+>>> both = Program([("put", 10, 5), ("put", 20, 6)])
+>>> [may_change_places(both, 0), alike(Program([("put", 10, 5), ("take", 10)]), Program([])), alike(Program([("put", 10, 5), ("take", 10)]), Program([("take", 10)]))]
+[True, False, True]
+>>> one, other = Program([("cover", 10, 20, 5), ("put", 15, 7)]), Program([("put", 15, 7), ("cover", 10, 20, 5)])
+>>> prices, day = unlike(one, other)
+>>> twice = Program([("cover", 3, 4, 1), ("cover", 2, 6, 9), ("raise", 2, 4, 0)])
+>>> [one.done(prices)[day] == other.done(prices)[day], needless(twice), least_sets(twice), untouched(twice, 6), sure(twice, 5), sure(twice, 7), same_days(twice, 2, 5), same_days(Program([]), 2, 3)]
+[False, [0, 2], [[1]], True, (9,), None, True, False]
+
+>>> from inforce.boards import Board, CalmBoard
+>>> from inforce.lists import PriceList
+>>> board = Board(PriceList([(2, 5)]))
+>>> [board(("put", 4, 6)), board(("cover", 3, 5, 7)), board.late(("put", 4, 9), 1), board.prices.entries, board.drop(1), board.undo(), len(board)]
+[[4, 5], [3, 4], [5, 6], [(2, 5), (3, 7), (5, 9)], [5, 6], None, 3]
+>>> calm = CalmBoard(PriceList([]))
+>>> [calm(("put", 4, 6)), calm.late(("put", 2, 5), 0), calm.prices.changes(), calm == Board(PriceList([]))]
+[[4, 5], [2, 3], [(2, 5), (4, 6)], False]
+
+>>> from inforce.lists import PriceList
+>>> from inforce.programs import Program
+>>> from inforce.readings import read_prices, read_program
+>>> from inforce.texts import show_prices, show_program
+>>> program = Program([("cover", 2, 6, None), ("raise", 0, 9, -3), ("take", 4)])
+>>> [show_prices(PriceList([(7, None), (3, 12)])), show_program(program), read_program(show_program(program)) == program, read_prices("") == PriceList([]), read_prices("3=12 7=-").entries]
+['3=12 7=-', 'cover 2 6 -; raise 0 9 -3; take 4', True, True, [(3, 12), (7, None)]]
 """
 
 import doctest
@@ -35,7 +63,7 @@ import unittest
 class Examples(unittest.TestCase):
     def test_examples_of_the_interface(self):
         examples = doctest.DocTestParser().get_doctest(__doc__, {}, "interface", None, 0)
-        self.assertEqual(len(examples.examples), 17)
+        self.assertEqual(len(examples.examples), 37)
         told = []
         doctest.DocTestRunner(verbose=False).run(examples, out=told.append)
         self.assertEqual("".join(told), "")
